@@ -1,0 +1,1 @@
+"""Replicas that choose who leads, and keep one log."""
