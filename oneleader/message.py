@@ -9,7 +9,7 @@ ABOUT_ENTRIES = 3
 class Message:
     """One thing said. It is never changed, so that a doubled one may be the same object."""
 
-    def __init__(self, kind, sender, receiver, term, a=0, b=0, c=0, entries=()):
+    def __init__(self, kind, sender, receiver, term, a=0, b=0, c=0, entries=None):
         self.kind = kind
         self.sender = sender
         self.receiver = receiver
@@ -17,4 +17,4 @@ class Message:
         self.a = a
         self.b = b
         self.c = c
-        self.entries = tuple(entries)
+        self.entries = () if entries is None else tuple(entries)

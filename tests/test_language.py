@@ -38,6 +38,22 @@ def names_of_pythons_values():
     return {name for value in ("", 0, [], {}, set(), b"") for name in dir(value)}
 
 
+def defaults(tree):
+    """Each default of each parameter, of functions within functions and of lambdas too."""
+    found = []
+    for node in ast.walk(tree):
+        if isinstance(node, (ast.FunctionDef, ast.AsyncFunctionDef, ast.Lambda)):
+            found += node.args.defaults + [default for default in node.args.kw_defaults if default is not None]
+    return found
+
+
+def is_written_plainly(node):
+    """A whole number, a text, True, False or None, as it is written; a name for one is none."""
+    if isinstance(node, ast.UnaryOp) and isinstance(node.op, ast.USub):
+        return isinstance(node.operand, ast.Constant) and type(node.operand.value) is int
+    return isinstance(node, ast.Constant) and type(node.value) in (int, str, bool, type(None))
+
+
 class TestLanguage(unittest.TestCase):
     def trees(self):
         return [(path, ast.parse(path.read_text(encoding="ascii"))) for path in files()]
@@ -84,6 +100,27 @@ class TestLanguage(unittest.TestCase):
             if isinstance(node, ast.ClassDef):
                 self.assertEqual(node.decorator_list, [])
                 self.assertLessEqual(len(node.bases), 1)
+
+    def test_defaults(self):
+        for path, tree in self.trees():
+            for default in defaults(tree):
+                self.assertTrue(is_written_plainly(default), (path, default.lineno, ast.unparse(default)))
+
+    def test_which_defaults_are_found_and_which_are_plain(self):
+        for text in ("0", "7", "-1", "'a'", "''", "True", "False", "None"):
+            self.assertTrue(self.all_plain(text), text)
+        for text in ("()", "[]", "{}", "(1,)", "[0]", "{1: 2}", "tuple()", "NAME", "1.0", "-1.5", "-True", "b'a'",
+                     "...", "1 + 1", "lambda: 0", "f'a'", "set()", "not 1"):
+            self.assertFalse(self.all_plain(text), text)
+
+    def all_plain(self, text):
+        """How a default is held in each place where one may stand; all places must say the same."""
+        places = (f"def f(a, b={text}): pass", f"def f(a={text}, b=0): pass", f"def f(*, a={text}): pass",
+                  f"class C:\n    def f(self, a={text}): pass", f"def f():\n    def g(a={text}): pass",
+                  f"x = lambda a={text}: a", f"def f(a, /, b={text}): pass")
+        held = {all(is_written_plainly(default) for default in defaults(ast.parse(place))) for place in places}
+        self.assertEqual(len(held), 1, text)
+        return held.pop()
 
     def test_imports(self):
         for path, tree in self.trees():
