@@ -18,11 +18,14 @@ class Replica:
         self.term = 0
         self.vote = 0
         self.log = []
-        self.role = FOLLOWS
+        self.forget()
+
+    def forget(self):
+        # Term, vote and log are written down and outlast a crash: without its vote it could vote twice in one term.
+        self.follow()
         self.settled = 0
-        self.voters = []
-        self.next_entry = [1] * n
-        self.same = [0] * n
+        self.next_entry = [1] * self.n
+        self.same = [0] * self.n
 
     def others(self):
         return [j for j in range(self.n) if j != self.number]

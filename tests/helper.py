@@ -15,6 +15,17 @@ NONE = [-4]
 FULL = [-6]
 
 
+class Numbers:
+    """The same row of numbers each time and under each Python."""
+
+    def __init__(self, seed):
+        self.last = seed * 2654435761 + 12345
+
+    def below(self, n):
+        self.last = (self.last * 6364136223846793005 + 1442695040888963407) % 2 ** 64
+        return (self.last >> 33) % n
+
+
 def begin(n):
     return [0, n]
 
@@ -43,6 +54,30 @@ def copy(m):
     return [6, m]
 
 
+def crash(i):
+    return [7, i]
+
+
+def look(i):
+    return [8, i]
+
+
+def log(i):
+    return [9, i]
+
+
+def settled(i):
+    return [10, i]
+
+
+def net():
+    return [11]
+
+
+def message(m):
+    return [12, m]
+
+
 def deliver_all(*numbers):
     return [deliver(m) for m in numbers]
 
@@ -61,6 +96,15 @@ def told(*calls):
 
 def do(state, *calls):
     return [answer(state, call[0], call[1:]) for call in calls]
+
+
+def deliver_everything(state):
+    """Delivers what is under way, and what is said on it. Nothing is said on a reply, so two a message are enough."""
+    for delivered in range(2 * len(state.under_way)):
+        if state.under_way:
+            do(state, deliver(next(iter(state.under_way))))
+    if state.under_way:
+        raise AssertionError("more was said than the document tells")
 
 
 def state_after(*calls):
@@ -97,12 +141,16 @@ def rows(state):
     return [(number,) + message_row(message) for number, message in state.under_way.items()]
 
 
-def replica_with(number=0, n=3, **values):
-    replica = Replica(number, n)
+def set_values(replica, **values):
     for name, value in values.items():
         if not hasattr(replica, name):
             raise AttributeError(name)
         setattr(replica, name, value)
+
+
+def replica_with(number=0, n=3, **values):
+    replica = Replica(number, n)
+    set_values(replica, **values)
     return replica
 
 

@@ -1,4 +1,7 @@
-"""The seven calls: what each answers, what it refuses and in which order, and what it leaves as it was."""
+"""The calls begin, stand, propose, beat, deliver, lose and copy.
+
+What each answers, what it refuses and in which order, and what it leaves as it was.
+"""
 
 import unittest
 
@@ -10,8 +13,9 @@ from tests.helper import (FULL, LARGEST, MOST_VALUE, NONE, ROLE, WRONG, beat, be
 def filled_to(state, count):
     """Doubles a message until so many are under way."""
     first = next(iter(state.under_way))
-    while len(state.under_way) < count:
-        do(state, copy(first))
+    do(state, *[copy(first)] * (count - len(state.under_way)))
+    if len(state.under_way) != count:
+        raise AssertionError("copy doesn't add one each time")
     return state
 
 

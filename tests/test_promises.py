@@ -1,27 +1,18 @@
-"""L1 to L5: held against many long lines of calls, and against the few that try them hardest."""
+"""L1 to L6: held against many long lines of all thirteen calls, and against the few that try them hardest."""
 
 import unittest
 
 from oneleader.replica import LEADS
-from tests.helper import (NONE, ROLE, beat, begin, copy, deliver, deliver_all, do, led, lose, propose, snapshot,
-                          stand, state_after)
-
-
-class Numbers:
-    """The same row of numbers each time and under each Python."""
-
-    def __init__(self, seed):
-        self.last = seed * 2654435761 + 12345
-
-    def below(self, n):
-        self.last = (self.last * 6364136223846793005 + 1442695040888963407) % 2 ** 64
-        return (self.last >> 33) % n
+from tests.helper import (NONE, ROLE, Numbers, beat, begin, copy, crash, deliver, deliver_all, deliver_everything, do,
+                          led, log, look, lose, message, net, propose, settled, snapshot, stand, state_after)
 
 
 def random_call(numbers, state):
     n = len(state.replicas)
-    kind = numbers.below(100)
+    kind = numbers.below(120)
     under_way = list(state.under_way)
+    if kind >= 100:
+        return random_asking(numbers, n, state.next_number)
     if kind < 4:
         return stand(numbers.below(n))
     if kind < 14 or not under_way:
@@ -30,12 +21,24 @@ def random_call(numbers, state):
             return stand(numbers.below(n))
         leader = leaders[numbers.below(len(leaders))]
         return propose(leader, numbers.below(1000)) if kind % 2 else beat(leader)
-    if kind < 20:
+    if kind < 18:
         return beat(numbers.below(n))
+    if kind < 21:
+        return crash(numbers.below(n))
     m = under_way[numbers.below(len(under_way))]
-    if kind < 80:
+    if kind < 82:
         return deliver(m)
     return lose(m) if kind < 94 else copy(m)
+
+
+def random_asking(numbers, n, next_number):
+    """One of the calls that only tell, or once in a while a begin; one past the last is asked for too."""
+    kind = numbers.below(60)
+    if kind == 0:
+        return begin(3 + numbers.below(3))
+    if kind % 5 < 3:
+        return (look, log, settled)[kind % 5](numbers.below(n + 1))
+    return net() if kind % 5 == 3 else message(numbers.below(next_number + 1))
 
 
 class Watch:
@@ -44,6 +47,10 @@ class Watch:
     def __init__(self, case, state):
         self.case = case
         self.state = state
+        self.crashes = 0
+        self.begin()
+
+    def begin(self):
         self.leader_of = {}
         self.proposed = {}
         self.settled = []
@@ -53,10 +60,16 @@ class Watch:
         before = snapshot(self.state)
         given = do(self.state, call)[0]
         if given[0] < 0:
-            self.case.assertEqual(snapshot(self.state), before)
+            self.case.assertEqual(len(given), 1, "L6")
+        if given[0] < 0 or call[0] >= 8:
+            self.case.assertEqual(snapshot(self.state), before, "L6: changed by a refusal, or by asking")
+        elif call[0] == 0:
+            self.begin()
         elif call[0] == 2:
             term = self.state.replicas[call[1]].term
             self.proposed[(given[0], term)] = call[2]
+        elif call[0] == 7:
+            self.crashes += 1
         self.look()
 
     def look(self):
@@ -65,6 +78,9 @@ class Watch:
         for replica in replicas:
             self.look_at_log(replica)
             self.look_at_settled(replica)
+        for k in range(1, len(self.settled) + 1):
+            have = [replica for replica in replicas if replica.log[:k] == self.settled[:k]]
+            self.case.assertLess(len(replicas), 2 * len(have), "L3: not more than half have it")
         for replica in replicas:
             if replica.role == LEADS:
                 self.look_at_leader(replica)
@@ -81,10 +97,8 @@ class Watch:
         self.case.assertLessEqual(replica.settled, len(replica.log))
         both = min(replica.settled, len(self.settled))
         self.case.assertEqual(replica.log[:both], self.settled[:both], "L3: settled otherwise")
+        # What was ever known to be settled is kept here, though a crash lets all who knew it forget.
         for k in range(len(self.settled) + 1, replica.settled + 1):
-            start = replica.log[:k]
-            have = [other for other in self.state.replicas if other.log[:k] == start]
-            self.case.assertLess(len(self.state.replicas), 2 * len(have), "L3: fewer than half have it")
             self.settled.append(replica.log[k - 1])
             self.settled_in.append(replica.term)
 
@@ -103,11 +117,6 @@ class Watch:
 
 def is_behind(replica, other):
     return (replica.last_term(), len(replica.log)) < (other.last_term(), len(other.log))
-
-
-def deliver_everything(state):
-    while state.under_way:
-        do(state, deliver(next(iter(state.under_way))))
 
 
 class TestLongLines(unittest.TestCase):
@@ -146,11 +155,12 @@ class TestLongLines(unittest.TestCase):
         return True
 
     def test_promises_hold_after_each_call(self):
-        settled = leaders = finished = 0
+        entries = leaders = finished = crashes = 0
         for n in (3, 5):
             for seed in range(150):
                 watch = self.walk(n, seed, 199)
-                settled += len(watch.settled)
+                entries += len(watch.settled)
+                crashes += watch.crashes
                 leaders += len(watch.leader_of)
                 do(watch.state, *[lose(m) for m in list(watch.state.under_way)])
                 for replica in watch.state.replicas:
@@ -158,7 +168,8 @@ class TestLongLines(unittest.TestCase):
                         finished += self.comes_to_settle(watch, replica.number)
                         break
         # Lines in which nothing happens would hold any promise.
-        self.assertGreater(settled, 500)
+        self.assertGreater(entries, 500)
+        self.assertGreater(crashes, 500)
         self.assertGreater(leaders, 500)
         self.assertGreater(finished, 200)
 
